@@ -1,0 +1,1 @@
+"""Nestcall: contracts that ask outsiders, and what outsiders can have at most."""

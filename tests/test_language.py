@@ -176,6 +176,34 @@ class CodeTest(unittest.TestCase):
             if isinstance(node, ast.Call) and isinstance(node.func, ast.Attribute):
                 self.assertIn(node.func.attr, METHODS | own, (file, node.lineno))
 
+    def test_attributes(self):
+        """Own attributes and methods do not have the names of those of builtin values, but for some."""
+        taken = {name for kind in (str, int, list, dict, set, bytes, tuple) for name in dir(kind)}
+        for file, node in all_nodes():
+            if isinstance(node, ast.Attribute) and isinstance(node.ctx, ast.Store):
+                self.assertNotIn(node.attr, taken - {"count", "index", "title", "copy", "add"}, (file, node.lineno))
+                self.assertNotIn(node.attr, BARRED | {"args"}, (file, node.lineno))
+            if isinstance(node, ast.ClassDef):
+                methods = {part.name for part in node.body if isinstance(part, ast.FunctionDef)}
+                self.assertEqual(methods & (taken - SPECIAL), set(), (file, node.name))
+                stored = [part for part in ast.walk(node) if isinstance(part, ast.Attribute)]
+                self.assertEqual(methods & {part.attr for part in stored if isinstance(part.ctx, ast.Store)}, set())
+
+    def test_words_that_do_not_occur(self):
+        for file in files():
+            self.assertNotRegex(file.read_text(), r"\b(type|typing|enum|namedtuple|dataclass|_wall|_WallAttr)\b")
+
+    def test_locals_are_no_imports(self):
+        for file in files():
+            tree = tree_of(file)
+            tops = {alias.name for node in tree.body if isinstance(node, ast.ImportFrom) for alias in node.names}
+            tops |= {node.name for node in tree.body if isinstance(node, ast.ClassDef)}
+            for node in ast.walk(tree):
+                if isinstance(node, ast.arg):
+                    self.assertNotIn(node.arg, tops, file)
+                if isinstance(node, ast.Name) and isinstance(node.ctx, ast.Store):
+                    self.assertNotIn(node.id, tops, file)
+
     def test_names(self):
         for file in files():
             for name in bound_names(tree_of(file)):
@@ -204,12 +232,18 @@ class InterfaceTest(unittest.TestCase):
         "words": {"is_name": ["word"], "number_of": ["word"]},
         "expression": {"expression_words": ["expression"], "combine": ["sign", "left", "right"]},
         "house": {"read_house": ["text"], "house_text": ["house"]},
+        "state": {"first_state": ["house"], "worth": ["state", "prices"]},
+        "walk": {"walk": ["house", "acts"]},
+        "search": {"least_rows": ["house"], "reachable": ["house"]},
+        "judge": {"is_closed": ["house", "pairs"], "bound": ["house", "pairs", "prices"]},
     }
+    LISTED = {"walk": {"Walk": {"act": ["act"], "can": ["act"], "asked": [], "depth": []}}}
     CLASSES = {
         "errors": {"HouseError": None, "BadText": ["at"], "BadAct": ["at"], "BadGuard": ["at"], "BadPaper": ["at"],
                    "TooLarge": ["what"], "BadHouse": ["what"]},
         "words": {"Cursor": ["text"]},
         "house": {"House": ["assets", "contracts"]},
+        "walk": {"Walk": ["house", "state"]},
     }
 
     def test_functions(self):
@@ -218,6 +252,16 @@ class InterfaceTest(unittest.TestCase):
             for function, arguments in functions.items():
                 self.assertIn(function, found)
                 self.assertEqual([arg.arg for arg in found[function].args.args], arguments)
+
+    def test_methods(self):
+        """Each method that is listed stands in the body of the class itself."""
+        for name, classes in self.LISTED.items():
+            found = {top.name: top for top in tree_of(FOLDER / f"{name}.py").body if isinstance(top, ast.ClassDef)}
+            for own, methods in classes.items():
+                body = {part.name: part for part in found[own].body if isinstance(part, ast.FunctionDef)}
+                for method, arguments in methods.items():
+                    self.assertIn(method, body)
+                    self.assertEqual([arg.arg for arg in body[method].args.args], ["self"] + arguments)
 
     def test_classes(self):
         for name, classes in self.CLASSES.items():

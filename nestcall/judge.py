@@ -29,7 +29,7 @@ class Judge:
     def ends_of_calls(self, state):
         """The list of `ends`, found by following the calls."""
         ends = {}
-        for place, number in self.program.calls:
+        for place, number, _ in self.program.calls:
             if not self.follow(begin(self.program, state, place, number), ends):
                 return None
         return list(ends)

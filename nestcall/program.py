@@ -28,7 +28,8 @@ class Program:
     """The procedures of a house, a list in the order of the text.
 
     `places` is a dict from (contract, procedure) to an index of that list;
-    `calls` are all calls that outsiders may begin, as pairs of index and number.
+    `calls` are all calls that outsiders may begin, as triples of index, number
+    and act.
     """
 
     def __init__(self, house):
@@ -40,7 +41,7 @@ class Program:
                 steps = block_steps(block, scope, self)
                 self.places[(contract[0], name)] = len(self.procedures)
                 self.procedures.append(Procedure(size, shown, steps))
-        self.calls = outside_calls(self.procedures)
+        self.calls = outside_calls(self)
 
 
 class Indexes:
@@ -58,12 +59,13 @@ class Indexes:
         self.sizes = [row[1] for row in house.contracts[own][1]]
 
 
-def outside_calls(procedures):
-    """All calls that outsiders may begin, as pairs of a procedure's index and a number."""
+def outside_calls(program):
+    """All calls that outsiders may begin, as triples of a procedure's index, a number and an act."""
     calls = []
-    for place, procedure in enumerate(procedures):
+    for (contract, name), place in program.places.items():
+        procedure = program.procedures[place]
         if procedure.shown:
-            calls.extend([(place, number) for number in range(procedure.size)])
+            calls.extend([(place, number, ("call", contract, name, number)) for number in range(procedure.size)])
     return calls
 
 

@@ -24,14 +24,19 @@ def is_name(word):
 
 def number_of(word):
     """The number that a word writes, or None."""
-    if word == "" or len(word) > LONGEST_NUMBER:
+    number = digits_value(word, LONGEST_NUMBER)
+    return number if number is not None and number <= LARGEST else None
+
+
+def digits_value(word, longest):
+    """The number that a word writes with at most so many digits and without a leading zero, or None."""
+    if word == "" or len(word) > longest:
         return None
     if not all([sign in DIGITS for sign in word]):
         return None
     if word[0] == "0" and word != "0":
         return None
-    number = int(word)
-    return number if number <= LARGEST else None
+    return int(word)
 
 
 class Cursor:

@@ -236,3 +236,31 @@ def slow_closed(house, pairs, most_ways=2000):
     except KeyError:
         return False
     return True
+
+
+def slow_lengths(house, rows):
+    """The least number of acts from each state with a row to each state of this row."""
+    best = {state: {state: 0} for state in rows}
+    grown = True
+    while grown:
+        grown = False
+        for row in best.values():
+            for state, before in list(row.items()):
+                for call in calls_of(house):
+                    for end, length in costs_of(house, state, call, best):
+                        if before + length < row.get(end, 10 ** 9):
+                            row[end] = before + length
+                            grown = True
+    return best
+
+
+def costs_of(house, state, call, best, choices=(), length=1):
+    """The states at the ends of a call with the numbers of acts that lead there, which are known so far."""
+    kind, reached, answers = call_through(house, state, call, choices)
+    if kind == "ended":
+        return [(reached, length)]
+    if kind == "failed":
+        return []
+    return [
+        cost for left, more in list(best[reached].items()) for answer in range(answers)
+        for cost in costs_of(house, state, call, best, choices + ((left, answer),), length + more + 1)]

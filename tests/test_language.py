@@ -165,7 +165,7 @@ class CodeTest(unittest.TestCase):
         for file in files():
             tree = tree_of(file)
             bound = bound_names(tree)
-            self.assertEqual(bound & set(vars(builtins)), set(), file)
+            self.assertEqual((bound - {"_"}) & set(vars(builtins)), set(), file)
             for node in ast.walk(tree):
                 if isinstance(node, ast.Name) and isinstance(node.ctx, ast.Load) and node.id not in bound:
                     self.assertIn(node.id, BUILTINS, file)
@@ -236,15 +236,25 @@ class InterfaceTest(unittest.TestCase):
         "walk": {"walk": ["house", "acts"]},
         "search": {"least_rows": ["house"], "reachable": ["house"]},
         "judge": {"is_closed": ["house", "pairs"], "bound": ["house", "pairs", "prices"]},
+        "most": {"most": ["house", "prices"], "play_to": ["house", "state"], "best_play": ["house", "prices"]},
+        "paper": {"state_text": ["state"], "read_state": ["house", "text", "at"], "paper_lines": ["pairs"],
+                  "read_paper": ["house", "lines"]},
+        "outsider": {"read_outsider": ["text"], "outsider_text": ["outsider"],
+                     "acts_of": ["house", "outsider", "count"], "outsider_of": ["acts"]},
+        "guards": {"guarded": ["house", "guards"], "least_guards": ["house", "candidates", "prices", "limit"]},
     }
-    LISTED = {"walk": {"Walk": {"act": ["act"], "can": ["act"], "asked": [], "depth": []}}}
+    LISTED = {
+        "walk": {"Walk": {"act": ["act"], "can": ["act"], "asked": [], "depth": []}},
+    }
     CLASSES = {
         "errors": {"HouseError": None, "BadText": ["at"], "BadAct": ["at"], "BadGuard": ["at"], "BadPaper": ["at"],
                    "TooLarge": ["what"], "BadHouse": ["what"]},
         "words": {"Cursor": ["text"]},
         "house": {"House": ["assets", "contracts"]},
         "walk": {"Walk": ["house", "state"]},
+        "outsider": {"Outsider": ["rules"]},
     }
+    DEFAULTS = {("Walk", "__init__"): [None], ("read_state", None): [0]}
 
     def test_functions(self):
         for name, functions in self.FUNCTIONS.items():
@@ -252,6 +262,22 @@ class InterfaceTest(unittest.TestCase):
             for function, arguments in functions.items():
                 self.assertIn(function, found)
                 self.assertEqual([arg.arg for arg in found[function].args.args], arguments)
+
+    def test_default_values(self):
+        """Only what the interface lists with a default value has one, and just this one."""
+        for name in list(self.FUNCTIONS) + list(self.CLASSES):
+            for top in tree_of(FOLDER / f"{name}.py").body:
+                if isinstance(top, ast.FunctionDef) and top.name in self.FUNCTIONS.get(name, {}):
+                    self.check_defaults(top, (top.name, None))
+                if isinstance(top, ast.ClassDef) and top.name in self.CLASSES.get(name, {}):
+                    for part in top.body:
+                        if isinstance(part, ast.FunctionDef) and part.name == "__init__":
+                            self.check_defaults(part, (top.name, part.name))
+
+    def check_defaults(self, function, key):
+        found = [value.value for value in function.args.defaults]
+        self.assertEqual(found, self.DEFAULTS.get(key, []), key)
+        self.assertFalse(function.args.kwonlyargs or function.args.posonlyargs or function.args.vararg, key)
 
     def test_methods(self):
         """Each method that is listed stands in the body of the class itself."""
@@ -262,6 +288,11 @@ class InterfaceTest(unittest.TestCase):
                 for method, arguments in methods.items():
                     self.assertIn(method, body)
                     self.assertEqual([arg.arg for arg in body[method].args.args], ["self"] + arguments)
+
+    def test_equal_houses_and_outsiders(self):
+        for name, own in (("house", "House"), ("outsider", "Outsider")):
+            found = {top.name: top for top in tree_of(FOLDER / f"{name}.py").body if isinstance(top, ast.ClassDef)}
+            self.assertIn("__eq__", {part.name for part in found[own].body if isinstance(part, ast.FunctionDef)})
 
     def test_classes(self):
         for name, classes in self.CLASSES.items():

@@ -242,9 +242,13 @@ class InterfaceTest(unittest.TestCase):
         "outsider": {"read_outsider": ["text"], "outsider_text": ["outsider"],
                      "acts_of": ["house", "outsider", "count"], "outsider_of": ["acts"]},
         "guards": {"guarded": ["house", "guards"], "least_guards": ["house", "candidates", "prices", "limit"]},
+        "upgrade": {"carried": ["old", "new", "state"], "most_after": ["old", "new", "prices"]},
+        "apart": {"parts": ["house"], "part_house": ["house", "row"]},
+        "code": {"compiled": ["house"]},
     }
     LISTED = {
         "walk": {"Walk": {"act": ["act"], "can": ["act"], "asked": [], "depth": []}},
+        "machine": {"Machine": {"act": ["act"], "asked": []}},
     }
     CLASSES = {
         "errors": {"HouseError": None, "BadText": ["at"], "BadAct": ["at"], "BadGuard": ["at"], "BadPaper": ["at"],
@@ -253,6 +257,8 @@ class InterfaceTest(unittest.TestCase):
         "house": {"House": ["assets", "contracts"]},
         "walk": {"Walk": ["house", "state"]},
         "outsider": {"Outsider": ["rules"]},
+        "code": {"Code": None},
+        "machine": {"Machine": ["house"]},
     }
     DEFAULTS = {("Walk", "__init__"): [None], ("read_state", None): [0]}
 

@@ -5,6 +5,7 @@ from itertools import combinations
 from nestcall.errors import BadGuard
 from nestcall.house import House, names_of
 from nestcall.most import most
+from nestcall.search import reachable
 
 LOCK_VARIABLE = ("lock", 2, 0)
 LOCK_FRONT = (("need", ("=", ("variable", "lock"), ("number", 0))), ("set", "lock", ("number", 1)))
@@ -58,30 +59,51 @@ def floor_check(asset, amount):
 def least_guards(house, candidates, prices, limit):
     """The least sets among some candidates that keep a limit, as lists. Raises BadGuard and TooLarge.
 
-    Guards only cut ways off, so that no set keeps a limit that all candidates
-    together do not keep. A set that need not be tried may still have a house
-    that is too large. But without its floors and hidden procedures, which add
-    no states, that house would be too large as well, and this has been seen by
-    then: locks alone are left to be asked.
+    Guards only cut ways off. So whatever contains a set that keeps the limit
+    keeps it, too, and no part of a set that does not keep it does.
     """
-    hopeless = most(guarded(house, candidates), prices) > limit
-    least = []
+    guarded(house, candidates)
+    search_with_locks(house, candidates)
+    least, failing = [], []
     for size in range(len(candidates) + 1):
         for picked in combinations(range(len(candidates)), size):
-            guards = [candidates[at] for at in picked]
-            needless = hopeless or any([contains(picked, smaller) for smaller in least])
-            if needless and not only_locks(guards):
+            if any([contains(picked, smaller) for smaller in least]):
                 continue
-            if most(guarded(house, guards), prices) <= limit and not needless:
+            if any([contains(larger, picked) for larger in failing]):
+                continue
+            if most_with(house, candidates, picked, prices) <= limit:
                 least.append(picked)
+            else:
+                failing.append(largest_failing(house, candidates, picked, prices, limit))
     return [[candidates[at] for at in chosen] for chosen in least]
+
+
+def search_with_locks(house, candidates):
+    """Raises TooLarge if the house with some set of the candidates is too large.
+
+    Floors and hidden procedures add neither states nor ways, so that locks
+    alone tell it: these add a variable.
+    """
+    locks = [guard for guard in candidates if guard[0] == "lock"]
+    for size in range(len(locks) + 1):
+        for picked in combinations(locks, size):
+            reachable(guarded(house, list(picked)))
+
+
+def most_with(house, candidates, picked, prices):
+    """The most of the house with the candidates that have some indexes."""
+    return most(guarded(house, [candidates[at] for at in picked]), prices)
+
+
+def largest_failing(house, candidates, picked, prices, limit):
+    """Indexes of candidates that do not keep a limit, some given ones among them, to which none can be added."""
+    failing = list(picked)
+    for at in range(len(candidates)):
+        if at not in failing and most_with(house, candidates, failing + [at], prices) > limit:
+            failing.append(at)
+    return failing
 
 
 def contains(picked, smaller):
     """Whether all of some indexes are among others."""
     return all([at in picked for at in smaller])
-
-
-def only_locks(guards):
-    """Whether all of some guards are locks."""
-    return all([guard[0] == "lock" for guard in guards])

@@ -106,6 +106,20 @@ class LeastGuardsTest(unittest.TestCase):
         self.check(text, floors[:2], [1], 3, [])
         self.check(text, [("floor", "bank", "gold", -70000)], [1], 4, [[]])
 
+    def test_many_candidates(self):
+        """Five procedures give one coin each, once; a floor of 9 - k lets them give k away."""
+        text = (
+            "asset gold 0 contract a " + "".join(f"var x{k} 2 0 " for k in range(5)) + "hold gold 9 "
+            + "".join(f"proc p{k} 1 shown need = x{k} 0 set x{k} 1 give gold 1 end " for k in range(5)) + "end")
+        hides = [("hide", "a", f"p{k}") for k in range(5)]
+        floors = [("floor", "a", "gold", k) for k in range(4, 10)]
+        candidates = [("lock", "a")] + hides + floors
+        for limit in range(6):
+            single = [[floor] for floor in floors if limit < 5 and floor[3] >= 9 - limit]
+            others = [list(picked) for picked in combinations(hides, 5 - limit)]
+            expected = others + single if limit == 4 else single + others
+            self.check(text, candidates, [1], limit, expected)
+
     def test_prices(self):
         text = (
             "asset gold 0 asset iron 0 contract bank hold gold 1 hold iron 1 proc p 1 shown give gold 1 end"
